@@ -1,0 +1,1 @@
+"""Pairs that hold: students who share rooms, two and two."""
