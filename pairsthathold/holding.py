@@ -45,24 +45,22 @@ def ho_nth(students, k):
     return told_pairing(good[k])
 
 
-def ho_best(students, a):
+def whom_by_place(students, a, at):
+    """Whom a has in those that hold, in the order in which a would rather: the one that stands there."""
     if not students.has(a):
         return [NOT_THERE]
-    good = good_pairings(students.lists)
-    if len(good) == 0:
+    whom = [mates[a] for mates in good_pairings(students.lists)]
+    if len(whom) == 0:
         return [NOT_SO]
-    best = min(good, key=lambda mates: place(students.lists, a, mates[a]))
-    return [best[a]]
+    return [sorted(whom, key=lambda b: place(students.lists, a, b))[at]]
+
+
+def ho_best(students, a):
+    return whom_by_place(students, a, 0)
 
 
 def ho_worst(students, a):
-    if not students.has(a):
-        return [NOT_THERE]
-    good = good_pairings(students.lists)
-    if len(good) == 0:
-        return [NOT_SO]
-    worst = max(good, key=lambda mates: place(students.lists, a, mates[a]))
-    return [worst[a]]
+    return whom_by_place(students, a, -1)
 
 
 def ho_alone(students):

@@ -1,12 +1,14 @@
 """Writes calls as numbers and takes the answers apart, for the tests."""
 
+import unittest
+
 from pairsthathold.house import answers
 
 GREATEST = 4294967295
 NUMBERS = {"start": 0, "wish": 1, "swap": 2, "pair": 3, "part": 4, "break": 5, "all": 6, "holds": 7, "breakers": 8,
            "would": 9, "good": 10, "nth": 11, "best": 12, "worst": 13, "alone": 14}
 
-# Calls that tell all that can be seen of the lists and of whom each one has, for seven students.
+# Calls that change nothing, and tell what can be seen of the lists and the pairs of up to seven students.
 LOOKS = ["holds", "breakers", "good", ("nth", 0), ("nth", 1), "alone"]
 LOOKS += [("would", a, b) for a in range(7) for b in range(7)]
 LOOKS += [("best", a) for a in range(7)] + [("worst", a) for a in range(7)]
@@ -64,3 +66,12 @@ def begun(n, lists):
 def everyone(n):
     """Lists by which each one would share with each other one, the lesser rather."""
     return {a: [b for b in range(n) if b != a] for a in range(n)}
+
+
+class Refusals(unittest.TestCase):
+    def refused(self, calls, call, answer):
+        """It answers this, and all is as it was."""
+        looks = LOOKS + [("part", a) for a in range(7)] + [wish(a, []) for a in range(7)]
+        told = ask(*calls, call, *looks)
+        self.assertEqual(told[len(calls)], [answer])
+        self.assertEqual(told[len(calls) + 1:], ask(*calls, *looks)[len(calls):])

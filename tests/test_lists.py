@@ -2,17 +2,9 @@
 
 import unittest
 
-from calling import EVEN_RING, GREATEST, LOOKS, ask, begun, everyone, last, wish
+from calling import EVEN_RING, GREATEST, Refusals, ask, begun, everyone, last, wish
 
 FOUR = begun(4, EVEN_RING)
-
-
-class Refusals(unittest.TestCase):
-    def refused(self, calls, call, answer):
-        """It answers this, and all is as it was."""
-        told = ask(*calls, call, *LOOKS, ("part", 0))
-        self.assertEqual(told[len(calls)], [answer])
-        self.assertEqual(told[len(calls) + 1:], ask(*calls, *LOOKS, ("part", 0))[len(calls):])
 
 
 class Wish(Refusals):

@@ -2,19 +2,12 @@
 
 import unittest
 
-from calling import EVEN_RING, GREATEST, LOOKS, ODD_RING, ask, begun, everyone, last, wish
+from calling import EVEN_RING, GREATEST, ODD_RING, Refusals, ask, begun, everyone, last, wish
 
 FOUR = begun(4, EVEN_RING)
 
 
-class Pairs(unittest.TestCase):
-    def refused(self, calls, call, answer):
-        """It answers this, and all is as it was."""
-        looks = LOOKS + [("part", a) for a in range(7)]
-        told = ask(*calls, call, *looks)
-        self.assertEqual(told[len(calls)], [answer])
-        self.assertEqual(told[len(calls) + 1:], ask(*calls, *looks)[len(calls):])
-
+class Pairs(Refusals):
     def paired(self, calls, mates):
         """With whom each one is after these calls, -6 where they're alone."""
         for a, b in enumerate(mates):
