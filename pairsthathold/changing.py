@@ -17,8 +17,7 @@ from pairsthathold.refusals import NOT_THERE
 from pairsthathold.refusals import PAIRED
 from pairsthathold.refusals import WRONG
 from pairsthathold.students import MOST_STUDENTS
-
-MOST_WISHES = 6
+from pairsthathold.students import MOST_WISHES
 
 
 def ho_start(students, n):

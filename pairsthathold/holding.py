@@ -3,14 +3,19 @@
 Each answers a list: a refusal alone, or the number that's answered and behind it what's told as out.
 """
 
+from pairsthathold.pairings import alone_ones
 from pairsthathold.pairings import breakers
 from pairsthathold.pairings import good_pairings
+from pairsthathold.pairings import greatest_of
 from pairsthathold.pairings import holds
 from pairsthathold.pairings import place
+from pairsthathold.pairings import places_had
 from pairsthathold.pairings import told_pairing
 from pairsthathold.pairings import would_break
 from pairsthathold.refusals import NOT_SO
 from pairsthathold.refusals import NOT_THERE
+from pairsthathold.refusals import WRONG
+from pairsthathold.telling import told_set
 
 
 def ho_holds(students):
@@ -67,5 +72,27 @@ def ho_alone(students):
     good = good_pairings(students.lists)
     if len(good) == 0:
         return [NOT_SO]
-    alone = [a for a in range(len(good[0])) if good[0][a] == a]
-    return [len(alone), sum([1 << a for a in alone])]
+    return told_set(alone_ones(good[0]))
+
+
+def ho_ever(students, a, b):
+    if not students.has(a) or not students.has(b):
+        return [NOT_THERE]
+    if a == b:
+        return [WRONG]
+    return [len([mates for mates in good_pairings(students.lists) if mates[a] == b])]
+
+
+def how_fair(lists, mates):
+    """Of two pairings the fairer one has the lesser of these."""
+    places = places_had(lists, mates)
+    return (greatest_of(places), sum(places))
+
+
+def ho_fairest(students):
+    good = good_pairings(students.lists)
+    if len(good) == 0:
+        return [NOT_SO]
+    # Of like ones min takes the first, and they stand in order.
+    fairest = min(good, key=lambda mates: how_fair(students.lists, mates))
+    return list(how_fair(students.lists, fairest)) + told_pairing(fairest)[1:]

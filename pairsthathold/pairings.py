@@ -17,6 +17,16 @@ def place(lists, a, b):
     return lists[a].index(b)
 
 
+def places_had(lists, mates):
+    """The place of whom each one has on their list."""
+    return [place(lists, a, mates[a]) for a in range(len(lists))]
+
+
+def greatest_of(places):
+    """The greatest of these places; 0 of nobody's."""
+    return max(places, default=0)
+
+
 def would_leave(lists, mates, a, b):
     """Whether a, on whose list b is, would rather have b than be as they are."""
     return place(lists, a, b) < place(lists, a, mates[a])
@@ -89,6 +99,10 @@ def all_pairings(lists):
 def good_pairings(lists):
     """All pairings that hold, in order."""
     return [mates for mates in all_pairings(lists) if holds(lists, mates)]
+
+
+def alone_ones(mates):
+    return [a for a in range(len(mates)) if mates[a] == a]
 
 
 def pair_count(mates):

@@ -2,6 +2,7 @@
 
 NOT_THERE = -2
 ALONE = -6
+NOT_ON_LIST = -6
 PAIRED = -16
 WRONG = -22
 NOT_SO = -33

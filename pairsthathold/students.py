@@ -1,6 +1,7 @@
 """The students: their lists, whom each one has, and the changes that can be taken back or done again."""
 
 MOST_STUDENTS = 7
+MOST_WISHES = 6
 MOST_CHANGES = 20
 
 

@@ -9,15 +9,21 @@ from pathlib import Path
 PACKAGE = Path(__file__).resolve().parent.parent / "pairsthathold"
 FILES = sorted(PACKAGE.glob("*.py"))
 
+# No error is raised or taken: a refusal is an answer like others. No set is made either.
 STATEMENTS = (ast.FunctionDef, ast.ClassDef, ast.ImportFrom, ast.Assign, ast.AugAssign, ast.If, ast.While, ast.For,
-              ast.Return, ast.Break, ast.Continue, ast.Pass, ast.Raise, ast.Try, ast.Expr)
+              ast.Return, ast.Break, ast.Continue, ast.Pass, ast.Expr)
 EXPRESSIONS = (ast.BoolOp, ast.BinOp, ast.UnaryOp, ast.Lambda, ast.IfExp, ast.Dict, ast.ListComp, ast.Compare,
                ast.Call, ast.Constant, ast.Attribute, ast.Subscript, ast.Name, ast.List, ast.Tuple, ast.Slice,
                ast.JoinedStr, ast.FormattedValue)
-OWN_NAMES = """len range enumerate zip min max sum abs sorted reversed int str bool list tuple dict set frozenset
-    isinstance ord repr any all divmod Exception ValueError TypeError KeyError IndexError LookupError
-    ZeroDivisionError ArithmeticError OverflowError RuntimeError NotImplementedError AttributeError
-    StopIteration""".split()
+OWN_NAMES = """len range enumerate zip min max sum abs sorted reversed int str bool list tuple dict isinstance ord repr
+    any all divmod""".split()
+KEYWORDS = {"sorted": ["key", "reverse"], "min": ["key", "default"], "max": ["key", "default"], "sum": ["start"],
+            "enumerate": ["start"], "zip": ["strict"]}
+WALKED_AT_ONCE = "zip enumerate reversed range items keys values".split()
+WALKERS = "list tuple dict sorted sum any all enumerate zip min max".split()
+UNUSED = """register mro elements open input version_info with_traceback add_note attrgetter breakpoint builtins compile
+    copyright credits delattr dir eval exec exit gc getattr globals hasattr help id importlib license locals
+    methodcaller os quit setattr super vars sys format format_map chr print""".split()
 WORDS = """type typing typing_extensions enum Enum IntEnum StrEnum Flag IntFlag Generic Protocol ABC ABCMeta
     namedtuple NamedTuple TypedDict TYPE_CHECKING abstractmethod""".split()
 METHODS = """append clear copy count endswith extend find get index insert isalnum isalpha isdigit islower isspace
@@ -97,8 +103,62 @@ class Form(unittest.TestCase):
             if isinstance(node, ast.ListComp):
                 self.assertEqual(len(node.generators), 1, where)
                 self.assertLessEqual(len(node.generators[0].ifs), 1, where)
-        for where, node in self.nodes(ast.Div, ast.MatMult, ast.Pow, ast.Is, ast.IsNot, ast.Starred):
+            if isinstance(node, ast.Compare):
+                for sign, other in zip(node.ops, node.comparators):
+                    if isinstance(sign, (ast.Is, ast.IsNot)):
+                        self.assertIn(ast.unparse(other), ("None", "True", "False"), where)
+        for where, node in self.nodes(ast.Div, ast.MatMult, ast.Pow, ast.Starred):
             self.fail(where)
+
+    def test_own_names_are_called_as_they_may_be(self):
+        called = [node.func for where, node in self.nodes(ast.Call)]
+        keys = [node.value for where, node in self.nodes(ast.keyword)]
+        for where, node in self.nodes(ast.Name):
+            if node.id in OWN_NAMES:
+                self.assertTrue(node in called or node in keys, where)
+        for where, node in self.nodes(ast.Attribute):
+            if node.attr in METHODS:
+                self.assertIn(node, called, where)
+        for where, node in self.nodes(ast.Call):
+            allowed = KEYWORDS.get(node.func.id, []) if isinstance(node.func, ast.Name) else []
+            for keyword in node.keywords:
+                self.assertIn(keyword.arg, allowed, where)
+
+    def test_walked_at_once(self):
+        walked = [node.iter for where, node in self.nodes(ast.For, ast.comprehension)]
+        for where, node in self.nodes(ast.Call):
+            if isinstance(node.func, ast.Name) and node.func.id in WALKERS:
+                walked += node.args[:1]
+        for where, node in self.nodes(ast.Call):
+            name = node.func.id if isinstance(node.func, ast.Name) else node.func.attr
+            if name in WALKED_AT_ONCE:
+                self.assertIn(node, walked, where)
+
+    def test_texts(self):
+        for path in FILES:
+            self.assertNotIn("\\", path.read_text(), path.name)
+        for where, node in self.nodes(ast.Constant):
+            if isinstance(node.value, str):
+                self.assertNotIn("%", node.value, where)
+
+    def test_values_are_given_through_local_names(self):
+        methods = [part.name for where, node in self.nodes(ast.ClassDef) for part in node.body
+                   if isinstance(part, ast.FunctionDef)]
+        self.assertEqual(len(methods), len(set(methods)))
+        for where, node in self.nodes(ast.Attribute):
+            if isinstance(node.ctx, ast.Store):
+                self.assertEqual(ast.unparse(node.value), "self", where)
+                self.assertNotIn(node.attr, methods, where)
+        for where, node in self.nodes(ast.FunctionDef):
+            if node.name == "__init__":
+                self.assertFalse(any(isinstance(inner, ast.Return) for inner in ast.walk(node)), where)
+
+    def test_classes_are_called_and_not_handed_on(self):
+        classes = [node.name for where, node in self.nodes(ast.ClassDef)]
+        called = [node.func for where, node in self.nodes(ast.Call)]
+        for where, node in self.nodes(ast.Name):
+            if node.id in classes:
+                self.assertIn(node, called, where)
 
     def test_imports(self):
         drawn = {}
@@ -137,7 +197,7 @@ class Form(unittest.TestCase):
             for node in tree.body[1:]:
                 self.assertIsInstance(node, (ast.ImportFrom, ast.Assign, ast.FunctionDef, ast.ClassDef), name)
                 if isinstance(node, ast.Assign):
-                    ast.literal_eval(node.value)
+                    self.assertIsInstance(ast.literal_eval(node.value), (int, str, tuple), name)
 
     def test_names(self):
         for name, tree in self.trees.items():
@@ -149,6 +209,9 @@ class Form(unittest.TestCase):
         for where, node in self.nodes(ast.Name):
             if node.id in vars(builtins):
                 self.assertIn(node.id, OWN_NAMES, where)
+        for where, node in self.nodes(ast.Name, ast.Attribute, ast.FunctionDef, ast.arg):
+            for field in ("id", "attr", "name", "arg"):
+                self.assertNotIn(getattr(node, field, None), UNUSED, where)
 
     def test_words_that_stand_nowhere(self):
         for path in FILES:

@@ -2,7 +2,7 @@
 
 import unittest
 
-from calling import EVEN_RING, GREATEST, LOOKS, ODD_RING, ask, begun, everyone, last
+from calling import EVEN_RING, GREATEST, LOOKS, ODD_RING, THREE_HOLD, Refusals, ask, begun, everyone, last
 from pairsthathold.pairings import all_pairings
 
 FOUR = begun(4, EVEN_RING)
@@ -11,8 +11,6 @@ INNER_RING = {0: [5], 5: [0], 1: [2, 4], 2: [3, 1], 3: [4, 2], 4: [1, 3]}
 # 1, 3, 4, 6 are a ring of four; 2 would rather have 5 than 0.
 RING_AND_REST = {1: [3, 6], 3: [4, 1], 4: [6, 3], 6: [1, 4], 0: [2], 2: [5, 0], 5: [2]}
 RING_OF_SIX = {a: [(a + 1) % 6, (a + 5) % 6] for a in range(6)}
-# Each of 0, 1, 2 would rather have one of 3, 4, 5 in turn, and these the other way round: three hold.
-THREE_HOLD = {0: [3, 4, 5], 1: [4, 5, 3], 2: [5, 3, 4], 3: [1, 2, 0], 4: [2, 0, 1], 5: [0, 1, 2]}
 
 
 class Holds(unittest.TestCase):
@@ -176,6 +174,86 @@ class Alone(unittest.TestCase):
 
     def test_none_holds(self):
         self.assertEqual(last(*begun(3, ODD_RING), "alone"), [-33])
+
+
+class Ever(Refusals):
+    def test_in_how_many_that_hold(self):
+        calls = begun(6, THREE_HOLD)
+        for a in range(6):
+            for b in range(6):
+                if a != b:
+                    self.assertEqual(last(*calls, ("ever", a, b)), [int((a < 3) != (b < 3))])
+
+    def test_in_more_than_one(self):
+        calls = begun(6, INNER_RING)
+        told = [last(*calls, ("ever", *two)) for two in ((0, 5), (5, 0), (1, 2), (4, 1), (1, 3), (0, 1))]
+        self.assertEqual(told, [[2], [2], [1], [1], [0], [0]])
+
+    def test_whoever_is_with_whom(self):
+        self.assertEqual(ask(*FOUR, ("pair", 0, 3), ("ever", 0, 1), ("ever", 0, 3), ("ever", 0, 2))[-3:],
+                         [[1], [1], [0]])
+
+    def test_none_holds(self):
+        self.assertEqual(last(*begun(3, ODD_RING), ("ever", 0, 1)), [0])
+
+    def test_nobody_shares(self):
+        self.assertEqual(last(*begun(7, {5: [6]}), ("ever", 5, 6)), [0])
+
+    def test_there_is_none(self):
+        for a in (4, 7, 2 ** 31, GREATEST):
+            self.refused(FOUR, ("ever", a, 0), -2)
+            self.refused(FOUR, ("ever", 0, a), -2)
+        self.refused([("start", 0)], ("ever", 0, 1), -2)
+
+    def test_the_same_one(self):
+        for a in range(4):
+            self.refused(FOUR, ("ever", a, a), -22)
+        self.refused([("start", 1)], ("ever", 0, 0), -22)
+
+    def test_there_is_none_is_looked_at_first(self):
+        for a in (4, GREATEST):
+            self.refused(FOUR, ("ever", a, a), -2)
+        self.refused([("start", 0)], ("ever", 0, 0), -2)
+
+
+class Fairest(Refusals):
+    def test_the_greatest_place_decides(self):
+        # The first one has 3 as its greatest place and 6 in all, the other one 2, and 7 in all.
+        lists = {0: [1, 5, 3], 1: [0, 2, 4], 2: [1, 0, 5, 3], 3: [0, 2, 4], 4: [1, 3, 5], 5: [4, 0, 2]}
+        calls = begun(6, lists)
+        self.assertEqual(ask(*calls, ("nth", 0), ("nth", 1))[-2:], [[3, 2, 1, 4, 3, 6, 5, 0], [3, 2, 1, 6, 5, 4, 3, 0]])
+        self.assertEqual(last(*calls, "fairest"), [2, 7, 2, 1, 6, 5, 4, 3, 0])
+        self.assertEqual(last(*begun(6, THREE_HOLD), "fairest"), [1, 6, 5, 6, 4, 3, 1, 2, 0])
+
+    def test_all_places_together_decide(self):
+        # Both have 2 as their greatest place; the first one has 4 in all, the other one 3.
+        calls = begun(4, {0: [3, 2, 1], 1: [3, 0, 2], 2: [1, 3], 3: [2, 0]})
+        self.assertEqual(ask(*calls, ("nth", 0), ("nth", 1))[-2:], [[2, 2, 1, 4, 3, 0, 0, 0], [2, 4, 3, 2, 1, 0, 0, 0]])
+        self.assertEqual(last(*calls, "fairest"), [2, 3, 4, 3, 2, 1, 0, 0, 0])
+
+    def test_the_order_decides(self):
+        self.assertEqual(last(*FOUR, "fairest"), [1, 2, 2, 1, 4, 3, 0, 0, 0])
+        # All three have 2 as their greatest place; the first one has 6 in all, the others 5.
+        lists = {0: [5, 1, 3], 1: [2, 4, 0], 2: [5, 1, 3], 3: [0, 2, 4], 4: [3, 1, 5], 5: [4, 2, 0]}
+        calls = begun(6, lists)
+        self.assertEqual(ask(*calls, ("nth", 1), ("nth", 2))[-2:], [[3, 4, 3, 2, 1, 6, 5, 0], [3, 4, 5, 6, 1, 2, 3, 0]])
+        self.assertEqual(last(*calls, "fairest"), [2, 5, 4, 3, 2, 1, 6, 5, 0])
+
+    def test_who_is_alone_counts_as_many_as_are_on_the_list(self):
+        self.assertEqual(last(*begun(7, everyone(7)), "fairest"), [6, 18, 2, 1, 4, 3, 6, 5, 0])
+        self.assertEqual(last(*begun(4, {0: [1, 2, 3], 1: [2]}), "fairest"), [3, 4] + [0] * 7)
+
+    def test_nobody_there_or_on_a_list(self):
+        for n in (0, 1, 7):
+            self.assertEqual(last(("start", n), "fairest"), [0] * 9)
+
+    def test_whoever_is_with_whom(self):
+        told = ask(*FOUR, ("pair", 1, 2), ("pair", 0, 3), "fairest", ("part", 0))
+        self.assertEqual(told[-2:], [[1, 2, 2, 1, 4, 3, 0, 0, 0], [3]])
+
+    def test_none_holds(self):
+        self.refused(begun(3, ODD_RING), "fairest", -33)
+        self.refused(begun(7, {**ODD_RING, 4: [5], 5: [4]}) + [("pair", 4, 5)], "fairest", -33)
 
 
 class NothingIsChanged(unittest.TestCase):
